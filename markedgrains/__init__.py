@@ -1,0 +1,1 @@
+"""How many marked grains may be, and must be, in some of the tanks."""
