@@ -2,10 +2,13 @@
 
 import contextlib
 import io
+import pathlib
 import unittest
 
-from calls import MOST_EVENTS, come_in, full, pour, start
+from calls import MOST_EVENTS, come_in, full, has, least, most, pour, start
 from markedgrains.desk import answers
+
+README = pathlib.Path(__file__).resolve().parent.parent / "README.md"
 
 
 class Unchanging(list):
@@ -22,8 +25,11 @@ def flat(calls):
     return [value for call in calls for value in call]
 
 
-MIXED = [0, 2, 1, 0, 10, 2, 5, 1, 2, 9, 0, 0, 2, 0, 1, 11, 2, 0, 1, 10, 0, 33, 2, 1, 0, 4, 0, 1, 1, 0, 3, 3, 3]
-MIXED_ANSWERS = [1, 0, 1, 0, 1, -22, 1, -33, 1, 1, 1, -22, 1, 2, 1, 0, 1, 0]
+MIXED = [
+    0, 2, 1, 0, 10, 2, 5, 1, 2, 9, 0, 0, 2, 0, 1, 11, 2, 0, 1, 10, 0, 33, 2, 1, 0, 4, 3, 0, 4, 1, 5, 2,
+    3, 2, 4, 4, 5, 7, 0, 1, 1, 0, 3, 3, 3, 5, 1]
+MIXED_ANSWERS = [
+    1, 0, 1, 0, 1, -22, 1, -33, 1, 1, 1, -22, 1, 2, 1, 4, 1, 4, 1, 0, 1, -22, 1, -22, 1, -22, 1, 0, 1, 0, 1, 3]
 
 
 class Form(unittest.TestCase):
@@ -38,9 +44,13 @@ class Form(unittest.TestCase):
 
     def test_values_that_look_like_calls(self):
         self.assertEqual(answers([0, 2, 1, 1, 1, 1, 1, 1, 1, 2, 2, 2, 2, 1, 0, 2]), [1, 0, 1, 0, 1, 1, 1, 2])
+        self.assertEqual(answers([0, 6, 3, 3, 4, 4, 5, 5, 1, 5, 5, 5, 5, 3, 5, 4, 32]), [1, 0] * 5 + [1, 5, 1, 5])
 
     def test_the_example_of_the_readme(self):
-        self.assertEqual(answers([0, 2, 1, 0, 10, 2, 5, 2, 0, 1, 4, 2, 0, 1, 7]), [1, 0, 1, 0, 1, 1, 1, -33])
+        calls = [0, 2, 1, 0, 10, 2, 5, 2, 0, 1, 6, 2, 0, 1, 7, 3, 1, 4, 1, 5, 1, 4, 2, 5, 3, 4, 4]
+        given = answers(calls)
+        self.assertEqual(given, [1, 0, 1, 0, 1, 1, 1, -33, 1, 6, 1, 4, 1, 0, 1, 5, 1, 2, 1, -22])
+        self.assertIn(f"answers({calls})\n# {given}\n", README.read_text(encoding="ascii"))
 
     def test_a_list_of_whole_numbers(self):
         given = answers(list(MIXED))
@@ -53,6 +63,11 @@ class Form(unittest.TestCase):
         self.assertEqual(len(calls), 300)
         numbers = [0] + list(range(MOST_EVENTS)) + [-28] * 20 + [-33] * 20 + [-22, 0, 0]
         self.assertEqual(answers(flat(calls)), flat([1, number] for number in numbers))
+
+    def test_three_hundred_calls_that_mostly_ask(self):
+        calls = [start(2), come_in(0, 5, 2, 4), pour(0, 1, 2)] + [has(0), most(1), least(1)] * 99
+        self.assertEqual(len(calls), 300)
+        self.assertEqual(answers(flat(calls)), [1, 0, 1, 0, 1, 1] + [1, 3, 1, 3, 1, 0] * 99)
 
     def test_three_hundred_starts(self):
         self.assertEqual(answers([0, 32] * 300), [1, 0] * 300)

@@ -28,7 +28,8 @@ class GoesWell(unittest.TestCase):
         check_grains(self, calls, 1, 0, 6, 4)
 
     def test_emptied_and_filled_anew(self):
-        calls = [start(2), come_in(0, 9, 0, 9), pour(0, 1, 9), pour(0, 1, 1), come_in(0, 3), pour(0, 1, 4), pour(0, 1, 3)]
+        calls = [start(2), come_in(0, 9, 0, 9), pour(0, 1, 9), pour(0, 1, 1), come_in(0, 3), pour(0, 1, 4),
+                 pour(0, 1, 3)]
         self.assertEqual(told(*calls), [0, 0, 1, -33, 2, -33, 3])
         check_grains(self, calls, 0, 1, 0, 4)
         check_grains(self, calls, 1, 0, 12, 4)

@@ -2,7 +2,8 @@
 
 import unittest
 
-from calls import BIGGEST, MOST_EVENTS, check_grains, check_refused, come_in, full, pour, start, told
+from calls import (
+    BIGGEST, MOST_EVENTS, bounds, check_grains, check_refused, come_in, every_set, full, pour, start, told)
 
 
 class Range(unittest.TestCase):
@@ -58,9 +59,21 @@ class Again(unittest.TestCase):
         self.assertEqual(told(*self.used, start(4), come_in(3, 1), come_in(4, 1))[4:], [0, 0, -22])
 
     def test_begins_anew_when_full(self):
-        calls = full() + [come_in(0, 1), start(2)] + [come_in(0, 1) for _ in range(MOST_EVENTS + 1)]
-        wanted = [-28, 0] + list(range(MOST_EVENTS)) + [-28]
-        self.assertEqual(told(*calls)[MOST_EVENTS + 1:], wanted)
+        calls = full() + [come_in(0, 1), start(2)] + [come_in(0, 1) for _ in range(40)]
+        self.assertEqual(told(*calls)[MOST_EVENTS + 1:], [-28, 0] + list(range(40)))
+
+    def test_as_many_events_as_ever(self):
+        calls = full()[:41] + [start(2)] + [come_in(0, 1) for _ in range(MOST_EVENTS + 1)]
+        self.assertEqual(told(*calls)[41:], [0] + list(range(MOST_EVENTS)) + [-28])
+
+    def test_nothing_is_marked_any_more(self):
+        for tanks in (2, 3, 4):
+            calls = self.used + [start(tanks)]
+            with self.subTest(tanks=tanks):
+                self.assertEqual(bounds(calls, every_set(tanks)), [(0, 0)] * (1 << tanks))
+                calls = calls + [come_in(1, 4, 1, 3)]
+                due = [(1, 3) if tank_set >> 1 & 1 else (0, 0) for tank_set in every_set(tanks)]
+                self.assertEqual(bounds(calls, every_set(tanks)), due)
 
     def test_a_refused_one_leaves_all_as_it_was(self):
         for tanks in (0, 33, BIGGEST):
