@@ -1,4 +1,4 @@
-"""Lists at the greatest sizes that may be handed in: what is due there by by_sets, and that they come to an end."""
+"""Lists at the greatest sizes that may be handed in: what is due there, and that they come to an end."""
 
 import random
 import unittest
@@ -46,6 +46,71 @@ def four_groups(source):
     return groups, [drawn(source, range(8), 64, MOST_AMOUNT, 20) for _ in groups]
 
 
+def room_by_time(calls, shares):
+    """From each tank at each time to those it may go to by the next event: how many may.
+
+    shares: of each coming in how many grains are sent, all from the node None.
+    """
+    grains = [0] * calls[0][1]
+    room = {None: {}}
+    for time, call in enumerate(calls[1:]):
+        for tank in range(len(grains)):
+            room[tank, time] = {(tank, time + 1): sum(grains)}
+        if call[0] == 1:
+            grains[call[1]] += call[2]
+            room[None][call[1], time + 1] = shares[time]
+        else:
+            _, origin, goal, amount = call
+            grains[origin] -= amount
+            grains[goal] += amount
+            room[origin, time] = {(origin, time + 1): grains[origin], (goal, time + 1): amount}
+    return room, grains
+
+
+def path_to(room, ends):
+    """A row of nodes from None to one of the ends, as short as may be, with room all along; or nothing."""
+    came = {None: None}
+    row = [None]
+    for node in row:
+        if node in ends:
+            path = [node]
+            while path[-1] is not None:
+                path.append(came[path[-1]])
+            return path[::-1]
+        for other, left in room.get(node, {}).items():
+            if left > 0 and other not in came:
+                came[other] = node
+                row.append(other)
+    return []
+
+
+def most_sent(calls, shares, tank_set):
+    """The most that get into the set's tanks by the last event, path by path."""
+    room, grains = room_by_time(calls, shares)
+    ends = {(tank, len(calls) - 1) for tank in range(len(grains)) if tank_set >> tank & 1}
+    sent = 0
+    path = path_to(room, ends)
+    while path:
+        steps = list(zip(path, path[1:]))
+        part = min(room[node][other] for node, other in steps)
+        for node, other in steps:
+            room[node][other] -= part
+            back = room.setdefault(other, {})
+            back[node] = back.get(node, 0) + part
+        sent += part
+        path = path_to(room, ends)
+    return sent
+
+
+def by_time(calls, tank_set):
+    """The set's least and most: as many as may be of the others, or of the marked ones, sent into it."""
+    marked = [call[4] if call[0] == 1 else 0 for call in calls[1:]]
+    others = [call[2] - call[3] if call[0] == 1 else 0 for call in calls[1:]]
+    grains = room_by_time(calls, marked)[1]
+    held = sum(grains[tank] for tank in range(len(grains)) if tank_set >> tank & 1)
+    return held - most_sent(calls, others, tank_set), most_sent(calls, marked, tank_set)
+
+
 def renamed(call, tanks):
     if call[0] == 1:
         return come_in(tanks[call[1]], *call[2:])
@@ -53,6 +118,20 @@ def renamed(call, tanks):
 
 
 class ThirtyTwoTanks(unittest.TestCase):
+    def test_by_time_holds_at_small_lists(self):
+        source = random.Random(103)
+        for _ in range(40):
+            calls = drawn(source, range(3), 12, 5, 30)
+            due = by_sets(calls)
+            self.assertEqual([by_time(calls, tank_set) for tank_set in every_set(3)], due, calls)
+
+    def test_all_of_them_mixed(self):
+        source = random.Random(104)
+        for comings in (12, 20, 40):
+            calls = drawn(source, range(32), MOST_EVENTS, MOST_AMOUNT, comings)
+            for tank_set in (source.getrandbits(32), source.getrandbits(32) & source.getrandbits(32)):
+                self.assertEqual(bounds(calls, [tank_set]), [by_time(calls, tank_set)], (calls, tank_set))
+
     def test_groups_that_are_never_mixed(self):
         source = random.Random(101)
         for _ in range(4):
